@@ -1,0 +1,1 @@
+"""Lacepages: packets laced into pages, and read again from any bytes."""
