@@ -1,7 +1,7 @@
 """The calls on one object that has a writer and a reader."""
 
-from lacedpages.checksum import make_table
-from lacedpages.layout import LONGEST_PACKET
+from lacedpages.checksum import make_table, sum_of_bytes
+from lacedpages.layout import LONGEST_PACKET, judge
 from lacedpages.reader import Reader
 from lacedpages.writer import Writer
 
@@ -74,8 +74,59 @@ def answer_feed(holder, numbers, row):
     return [DONE, holder.reader.feed_bytes(row)]
 
 
+def answer_close(holder, numbers, row):
+    holder.reader.close_feeding()
+    return [DONE]
+
+
+def answer_waits(holder, numbers, row):
+    if not holder.reader.packets_waiting:
+        return [NONE_WAITS]
+    return [DONE, len(holder.reader.packets_waiting[0].body)]
+
+
+def answer_next(holder, numbers, row):
+    if numbers[0] < 0:
+        return [NOT_AS_TOLD]
+    if not holder.reader.packets_waiting:
+        return [NONE_WAITS]
+    if len(holder.reader.packets_waiting[0].body) > numbers[0]:
+        return [TOO_LONG]
+    packet = holder.reader.take_waiting()
+    return [DONE, packet.position, packet.hole, packet.last] + packet.body
+
+
+def answer_counts(holder, numbers, row):
+    return [DONE] + holder.reader.list_counts()
+
+
+def answer_sum(holder, numbers, row):
+    if not are_bytes(row):
+        return [NOT_AS_TOLD]
+    return [DONE, sum_of_bytes(holder.table, row)]
+
+
+def answer_check(holder, numbers, row):
+    if not are_bytes(row):
+        return [NOT_AS_TOLD]
+    return [DONE, judge(holder.table, row, 0)]
+
+
 # For each call's number: how many whole numbers it has, and how many rows behind them.
-SHAPES = {1: (1, 0), 2: (2, 1), 3: (0, 0), 4: (0, 0), 5: (1, 0), 6: (0, 1)}
+SHAPES = {
+    1: (1, 0),
+    2: (2, 1),
+    3: (0, 0),
+    4: (0, 0),
+    5: (1, 0),
+    6: (0, 1),
+    7: (0, 0),
+    8: (0, 0),
+    9: (1, 0),
+    10: (0, 0),
+    11: (0, 1),
+    12: (0, 1),
+}
 
 ANSWERS = {
     1: answer_writer,
@@ -84,6 +135,12 @@ ANSWERS = {
     4: answer_page,
     5: answer_reader,
     6: answer_feed,
+    7: answer_close,
+    8: answer_waits,
+    9: answer_next,
+    10: answer_counts,
+    11: answer_sum,
+    12: answer_check,
 }
 
 

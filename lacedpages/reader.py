@@ -13,11 +13,22 @@ def told_position(page):
     return NO_POSITION if position == ALL_BITS_SET else position
 
 
+class Packet:
+    """A packet that waits to be taken, and what stands beside it."""
+
+    def __init__(self, position, hole, last, body):
+        self.position = position
+        self.hole = hole
+        self.last = last
+        self.body = body
+
+
 class Reader:
     def __init__(self, stream, table):
         self.stream = stream
         self.table = table
         self.unjudged = []
+        self.closed = False
         self.last_number = None
         self.over = False
         self.begun = None
@@ -31,11 +42,26 @@ class Reader:
 
     def feed_bytes(self, data):
         took = 0
-        while took < len(data) and not self.packets_waiting:
+        while took < len(data) and not self.packets_waiting and not self.closed:
             self.unjudged.append(data[took])
             took += 1
             self.judge_unjudged()
         return took
+
+    def close_feeding(self):
+        self.closed = True
+        while self.unjudged:
+            self.bytes_passed += 1
+            self.unjudged = self.unjudged[1:]
+            self.judge_unjudged()
+        self.drop_begun()
+
+    def take_waiting(self):
+        return self.packets_waiting.pop(0)
+
+    def list_counts(self):
+        pages = [self.pages_taken, self.pages_of_others, self.pages_too_late]
+        return pages + [self.bytes_passed, self.packets_dropped]
 
     def judge_unjudged(self):
         start = 0
@@ -109,6 +135,6 @@ class Reader:
             return
         position = told_position(page) if is_last_in_page else NO_POSITION
         last = 1 if is_last_in_page and page[FLAGS_AT] & LAST_PAGE else 0
-        self.packets_waiting.append((position, self.hole, last, self.begun))
+        self.packets_waiting.append(Packet(position, self.hole, last, self.begun))
         self.begun = None
         self.hole = 0

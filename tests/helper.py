@@ -30,9 +30,36 @@ def feed(data):
     return [6, len(data)] + list(data)
 
 
+def close():
+    return [7]
+
+
+def waits():
+    return [8]
+
+
+def take(cap=9000):
+    """The call next, whose own name is Python's."""
+    return [9, cap]
+
+
+def counts():
+    return [10]
+
+
+def sum_call(data):
+    return [11, len(data)] + list(data)
+
+
+def check(data):
+    return [12, len(data)] + list(data)
+
+
 def run(*calls):
     """Each call's answer as a list of its own, the refusal or 0 first."""
-    given = answers([number for call in calls for number in call])
+    line = [number for call in calls for number in call]
+    assert 1 <= len(calls) <= 100 and len(line) <= 16000, "more than a line may have"
+    given = answers(line)
     taken_apart = []
     place = 0
     while place < len(given):
@@ -42,6 +69,76 @@ def run(*calls):
         place += 1 + count
     assert len(taken_apart) == len(calls)
     return taken_apart
+
+
+class Line:
+    """A line that grows call by call, each put when the answers before it are known.
+
+    Every question runs the whole line anew, so the answers before it are asked for again and have to be the same."""
+
+    def __init__(self, *calls):
+        self.calls = list(calls)
+        self.given = run(*calls) if calls else []
+
+    def ask(self, call):
+        self.calls.append(call)
+        before = self.given
+        self.given = run(*self.calls)
+        assert self.given[:-1] == before, "an earlier answer has changed"
+        return self.given[-1]
+
+    def take_all(self):
+        """All packets that wait, each as position, hole, last and its bytes."""
+        packets = []
+        answer = self.ask(take())
+        while answer != [-5]:
+            assert answer[0] == 0
+            packets.append((*answer[1:4], answer[4:]))
+            answer = self.ask(take())
+        return packets
+
+    def read(self, data, size=9000):
+        """Feeds all data in pieces of that size; the packets, taken whenever a feed stops and at the end."""
+        packets = []
+        place = 0
+        while place < len(data):
+            piece = data[place : place + size]
+            done, took = self.ask(feed(piece))
+            assert done == 0
+            place += took
+            if took < len(piece):
+                found = self.take_all()
+                assert found, "a feed stopped though no packet waits"
+                packets += found
+        return packets + self.take_all()
+
+
+def joined(pages):
+    return [value for whole in pages for value in whole]
+
+
+def written(stream, packets, flushed=()):
+    """The pages of these packets, (position, bytes) each, the last one ending the stream.
+
+    Behind the packets whose places are in flushed the page begun is done."""
+    line = Line(writer(stream))
+    pages = []
+    for place, (position, packet) in enumerate(packets):
+        assert line.ask(put(position, 1 if place == len(packets) - 1 else 0, packet)) == [0]
+        pages += taken_pages(line)
+        if place in flushed:
+            assert line.ask(flush()) == [0]
+            pages += taken_pages(line)
+    return pages
+
+
+def taken_pages(line):
+    pages = []
+    answer = line.ask(page())
+    while answer != [-5]:
+        pages.append(answer[1:])
+        answer = line.ask(page())
+    return pages
 
 
 def polynomial_sum(data):

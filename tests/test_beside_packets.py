@@ -1,35 +1,21 @@
-"""What stands beside a packet and what is counted, asked of the reader itself."""
+"""Promises 9 and 10: what stands beside a packet, and what is counted, page by page as the reader is told."""
 
 import unittest
 
-from lacedpages.checksum import make_table
-from lacedpages.reader import Reader
-from tests.helper import make_page, some_bytes
+from tests.helper import Line, counts, feed, joined, make_page, run, some_bytes
 
 BEGUN = [255, 255]
 BEGUN_BODY = some_bytes(510)
 
 
-def read(*pages):
-    """A reader of stream 0 that was fed all pages, and all packets that waited meanwhile."""
-    one = Reader(0, make_table())
-    packets = []
-    for whole in pages:
-        place = 0
-        while place < len(whole):
-            place += one.feed_bytes(whole[place:])
-            packets += one.packets_waiting
-            one.packets_waiting = []
-    return one, packets
-
-
 def packets_of(*pages):
-    return read(*pages)[1]
+    return Line().read(joined(pages))
 
 
 def counts_of(*pages):
-    one = read(*pages)[0]
-    return [one.pages_taken, one.pages_of_others, one.pages_too_late, one.bytes_passed, one.packets_dropped]
+    line = Line()
+    line.read(joined(pages))
+    return line.ask(counts())[1:]
 
 
 class BesidePacketsTest(unittest.TestCase):
@@ -82,6 +68,13 @@ class BesidePacketsTest(unittest.TestCase):
         self.assertEqual(packets_of(first), [(3, 1, 0, [6])])
         self.assertEqual(counts_of(first), [1, 0, 0, 0, 0])
 
+    def test_no_hole_by_a_page_without_pieces(self):
+        for flags in (0, 1):
+            pages = [make_page(0, [0], [], flags=2, position=1), make_page(1, [], [], flags=flags)]
+            pages += [make_page(2, [0], [], position=2)]
+            self.assertEqual(packets_of(*pages), [(1, 0, 0, []), (2, 0, 0, [])])
+            self.assertEqual(counts_of(*pages), [3, 0, 0, 0, 0])
+
     def test_no_hole_by_pages_that_only_count(self):
         first = make_page(4, [0], [], flags=2, position=1)
         between = [make_page(9, [0], [], stream=1), make_page(4, [1], [1]), make_page(3, [1], [1])]
@@ -109,19 +102,19 @@ class BesidePacketsTest(unittest.TestCase):
 
     def test_a_byte_is_passed_over_as_soon_as_it_can_be_said(self):
         mark = [79, 103, 103, 83, 0]
-        for waits, tells in (([], 80), (mark[:2], 104), (mark[:4], 1), (mark, 8), (mark + [7] + [0] * 20, 17)):
-            one = Reader(0, make_table())
-            one.feed_bytes(waits)
-            self.assertEqual((one.bytes_passed, one.unjudged), (0, waits))
-            one.feed_bytes([tells])
-            self.assertEqual((one.bytes_passed, one.unjudged), (len(waits) + 1, []))
+        for held, tells in (([], 80), (mark[:2], 104), (mark[:4], 1), (mark, 8), (mark + [7] + [0] * 20, 17)):
+            given = run(feed(held), counts(), feed([tells]), counts())
+            self.assertEqual(given[1], [0, 0, 0, 0, 0, 0])
+            self.assertEqual(given[3], [0, 0, 0, 0, len(held) + 1, 0])
 
     def test_pages_held_back_are_all_judged_at_once(self):
         false = [79, 103, 103, 83, 0] + [0] * 21 + [1, 100]
         held = make_page(0, [1], [1], flags=2, position=1) + make_page(1, [1], [2], position=2)
-        one = Reader(0, make_table())
-        self.assertEqual(one.feed_bytes(false + held + [0] * 100), 27 + 1 + 100)
-        self.assertEqual(one.packets_waiting, [(1, 0, 0, [1]), (2, 0, 0, [2])])
+        line = Line(feed(false + held + [0] * 100))
+        self.assertEqual(line.given, [[0, 27 + 1 + 100]])
+        between = 27 + 1 + 100 - len(held)
+        self.assertEqual(line.ask(counts()), [0, 2, 0, 0, between, 0])
+        self.assertEqual(line.take_all(), [(1, 0, 0, [1]), (2, 0, 0, [2])])
 
 
 if __name__ == "__main__":
